@@ -1,0 +1,1 @@
+"""truelevels: heights of marks from readings of differences, some of which lie."""
