@@ -4,15 +4,23 @@ import copy
 import unittest
 
 from helpers import LONE, PAIR, RING, TRIANGLE, edge_nets, small_nets
+from truelevels.adjust import best_paper
+from truelevels.cuts import cut_of, least_cut, strength, strength_paper
 from truelevels.errors import BadNet
+from truelevels.judge import is_even, judge, worth
 from truelevels.misses import cost, lies, miss_of, misses
 from truelevels.nets import check_net, is_joined, reached
+from truelevels.spans import is_one, spans
 from truelevels.text import parse, shown
+from truelevels.weights import (broken_side, check_weights, firmness, judge_weighted, twin_of, weighted_cost,
+                                weighted_paper)
 
 NETS = [LONE, PAIR, TRIANGLE, RING] + small_nets(9, 12) + edge_nets(9)[:2]
 TEXTS = ["marks a", "marks a b\na to b is 7", "marks a b", "marks a a", "", "%", "marks a b\na to b is 7\nx"]
 THINGS = [["net", ("a",), ()], ("net", ["a", "b"], [[0, 1, 7]]), ("net", ("a", "b"), ([0, 1, True],)),
           [[], [[]], None, "net"], ("net", ("a", []), ([],)), ("net", ("b", "a"), ())]
+PAPERS = [["best", [0, 7], [0, 1, 1]], ("best", (0, 7), [0, 1, 1]), ("strength", 3, [1], [[[0], [1], [2]]]),
+          ("weighted", [0, 7], [0, 1, 1]), [], [[1], [2], [3]], (3, [2], 1)]
 
 
 def answer(function, arguments):
@@ -34,8 +42,32 @@ def calls():
         yield parse, (shown(net),)
         yield from [(function, (net, heights)) for function in (misses, cost, lies)]
         yield from [(miss_of, (reading, heights)) for reading in net[2]]
+        yield from calls_by_flows_and_cuts(net, heights)
     yield from [(parse, (text,)) for text in TEXTS]
     yield from [(check_net, (thing,)) for thing in THINGS]
+    for paper in PAPERS:
+        yield judge, (PAIR, paper)
+        yield judge_weighted, (PAIR, (1, 2, 3), paper)
+        yield check_weights, (PAIR, paper)
+
+
+def calls_by_flows_and_cuts(net, heights):
+    """Functions on adjusting, spans, cuts and weights with arguments."""
+    weights = tuple(1 + 37 * index % 100 for index in range(len(net[2])))
+    yield from [(function, (net,)) for function in (best_paper, spans, is_one, strength, strength_paper)]
+    yield from [(function, (net, weights)) for function in (check_weights, weighted_paper, firmness)]
+    yield from [(broken_side, (net, weights, k)) for k in (0, 1, 2, 99)]
+    yield weighted_cost, (net, weights, heights)
+    yield from [(function, (net, weights)) for function in (is_even, worth)]
+    yield from [(judge, (net, paper)) for paper in (best_paper(net), strength_paper(net), ["best", [heights], weights])]
+    for paper in (weighted_paper(net, weights), ["weighted", [heights], weights]):
+        yield judge_weighted, (net, weights, paper)
+    if len(net[1]) > 1:
+        last = len(net[1]) - 1
+        yield cut_of, (net, (last,))
+        yield twin_of, (net, weights, (last,), 2)
+        yield least_cut, (net, 0, last)
+        yield least_cut, (net, last, 0)
 
 
 class Calls(unittest.TestCase):

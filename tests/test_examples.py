@@ -4,15 +4,26 @@ import importlib
 import inspect
 import unittest
 
+from truelevels.adjust import best_paper
+from truelevels.cuts import cut_of, strength
 from truelevels.errors import BadNet
 from truelevels.misses import cost, lies, misses
+from truelevels.spans import is_one, spans
 from truelevels.text import parse
+from truelevels.weights import broken_side, firmness, twin_of
 
 INTERFACE = {
     "errors": {"LevelError": None, "BadNet": None, "BadEntry": None, "BadState": None},
     "nets": {"check_net": "net", "is_joined": "marks readings", "reached": "many readings start"},
     "text": {"shown": "net", "parse": "text"},
     "misses": {"miss_of": "reading heights", "misses": "net heights", "cost": "net heights", "lies": "net heights"},
+    "adjust": {"best_paper": "net"},
+    "judge": {"judge": "net paper", "is_even": "net flow", "worth": "net flow"},
+    "spans": {"spans": "net", "is_one": "net"},
+    "cuts": {"cut_of": "net side", "least_cut": "net one other", "strength": "net", "strength_paper": "net"},
+    "weights": {"check_weights": "net weights", "weighted_cost": "net weights heights", "weighted_paper": "net weights",
+                "judge_weighted": "net weights paper", "broken_side": "net weights k", "firmness": "net weights",
+                "twin_of": "net weights side k"},
 }
 
 
@@ -43,6 +54,23 @@ class Examples(unittest.TestCase):
     def test_misses(self):
         net = ("net", ("a", "b"), ((0, 1, 7), (1, 0, -6), (0, 1, 6)))
         self.assertEqual((misses(net, (0, 6)), cost(net, (0, 6)), lies(net, (0, 6))), ((1, 0, 0), 1, (0,)))
+
+    def test_adjust(self):
+        self.assertEqual(best_paper(("net", ("a", "b"), ((0, 1, 7), (1, 0, -6), (0, 1, 6))))[1], (0, 6))
+
+    def test_spans(self):
+        net = ("net", ("a", "b"), ((0, 1, 7), (0, 1, 5)))
+        self.assertEqual((spans(net), is_one(net)), (((0, 0), (5, 7)), False))
+
+    def test_cuts(self):
+        net = ("net", ("a", "b", "c"), ((0, 1, 7), (0, 1, 5), (1, 2, 3), (2, 0, 1)))
+        self.assertEqual((cut_of(net, (2,)), strength(net)), ((2, 3), 2))
+
+    def test_weights(self):
+        net = ("net", ("a", "b"), ((0, 1, 7), (1, 0, -7), (0, 1, 9)))
+        self.assertEqual((firmness(net, (1, 1, 1)), firmness(net, (1, 1, 2)), broken_side(net, (1, 1, 2), 1)),
+                         (1, 0, (1,)))
+        self.assertEqual(twin_of(net, (1, 5, 2), (1,), 1), ("net", ("a", "b"), ((0, 1, 0), (1, 0, -1), (0, 1, 0))))
 
 
 if __name__ == "__main__":

@@ -10,10 +10,12 @@ import truelevels
 FOLDER = pathlib.Path(truelevels.__file__).parent
 LIBRARY = {"heapq", "math", "itertools", "collections"}
 BUILTINS = set(
-    "len range enumerate zip min max sum abs sorted reversed int str bool bytes list tuple dict set frozenset isinstance"
-    " ord repr any all divmod pow getattr hasattr setattr iter next map super type property staticmethod classmethod"
-    " object Exception ValueError TypeError KeyError IndexError LookupError ZeroDivisionError ArithmeticError"
-    " OverflowError RuntimeError NotImplementedError AttributeError StopIteration NotImplemented".split())
+    "len range enumerate zip min max sum abs sorted reversed int str bool bytes list tuple dict set frozenset"
+    " isinstance ord repr any all divmod pow getattr hasattr setattr iter next map super type property staticmethod"
+    " classmethod object float Exception ValueError TypeError KeyError IndexError LookupError ZeroDivisionError"
+    " ArithmeticError OverflowError RuntimeError NotImplementedError AttributeError StopIteration"
+    " NotImplemented".split()
+)
 
 
 def sources():

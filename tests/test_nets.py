@@ -3,7 +3,8 @@
 import random
 import unittest
 
-from helpers import LONE, NAMES, PAIR, RING, TRIANGLE, drawn_net, edge_nets, in_lists, places, small_nets, with_part
+from helpers import (LONE, NAMES, PAIR, RING, TRIANGLE, drawn_net, drawn_thing, edge_nets, in_lists, places, small_nets,
+                     with_part)
 from truelevels.errors import BadNet
 from truelevels.nets import check_net, is_joined, reached
 
@@ -159,6 +160,15 @@ class NoNets(Refusing):
             if place != (2,):
                 self.refused(with_part(TRIANGLE, place, ()))
 
+    def test_drawn_things(self):
+        draw = random.Random(18)
+        for _ in range(3000):
+            self.refused(drawn_thing(draw))
+            self.refused(("net", ("a", "b"), (drawn_thing(draw), drawn_thing(draw))))
+            thing = drawn_thing(draw)
+            self.refused(("net", ("a", thing, "A"), ((0, 1, 7), (1, 2, 7))))
+            self.refused(("net", thing, ((0, 1, 7), (1, 2, 7), (2, 3, 7), (3, 4, 7), (4, 5, 7))))
+
     def test_texts_in_the_place_of_tuples(self):
         self.refused("net")
         self.refused(("net", "ab", ((0, 1, 5),)))
@@ -232,7 +242,8 @@ class Reached(unittest.TestCase):
                          [(0, 3), (1, 2, 4), (1, 2, 4), (0, 3), (1, 2, 4)])
 
     def test_both_directions(self):
-        for readings in (((0, 1, 1), (1, 2, 1)), ((1, 0, 1), (2, 1, 1)), ((0, 1, 1), (2, 1, 1)), ((1, 0, 1), (1, 2, 1))):
+        for readings in (((0, 1, 1), (1, 2, 1)), ((1, 0, 1), (2, 1, 1)),
+                         ((0, 1, 1), (2, 1, 1)), ((1, 0, 1), (1, 2, 1))):
             for start in range(3):
                 self.assertEqual(reached(3, readings, start), (0, 1, 2))
 
