@@ -84,6 +84,13 @@ def sum_of_worth(net, flow):
     return sum(amount * reading[2] for amount, reading in zip(flow, net[2]))
 
 
+def best_by_search(net, reach):
+    """All best heights of a net none of which is above reach in size."""
+    costs = [(sum_of_misses(net, heights), heights) for heights in all_heights(net, reach)]
+    least = min(costs)[0]
+    return [heights for price, heights in costs if price == least]
+
+
 def is_plain(thing):
     """True for an integer that is no True or False."""
     return type(thing) is int
@@ -107,6 +114,40 @@ def paper_is_right(net, paper, word="best", weights=None):
 def cut_by_hand(net, side):
     """The indices of the readings of the cut of a side."""
     return tuple(k for k, (start, end, _) in enumerate(net[2]) if (start in side) + (end in side) == 1)
+
+
+def least_by_sides(net, one, other):
+    """The least size of a cut that parts two marks, by all sides."""
+    return min(len(cut_by_hand(net, side)) for side in all_sides(net) if (one in side) != (other in side))
+
+
+def strength_by_sides(net):
+    """The strength, by all sides."""
+    return min((len(cut_by_hand(net, side)) for side in all_sides(net)), default=-1)
+
+
+def pairs_of(net):
+    """All pairs of unlike marks, in both orders."""
+    return list(itertools.permutations(range(len(net[1])), 2))
+
+
+def kept_values(net, heights):
+    """The net with values that the heights keep."""
+    return (net[0], net[1], tuple((start, end, heights[end] - heights[start]) for start, end, _ in net[2]))
+
+
+def with_lies(draw, net, heights, k, most):
+    """The net with values of which just k (or all, if there are not so many) lie by the heights, by at most most."""
+    readings = list(kept_values(net, heights)[2])
+    for index in draw.sample(range(len(readings)), min(k, len(readings))):
+        start, end, value = readings[index]
+        readings[index] = (start, end, value + draw.choice((-1, 1)) * draw.randint(1, most))
+    return (net[0], net[1], tuple(readings))
+
+
+def lies_by_hand(net, heights):
+    """The indices of the readings that the heights do not keep."""
+    return tuple(k for k, (start, end, value) in enumerate(net[2]) if heights[end] - heights[start] != value)
 
 
 def is_good_side(net, side):

@@ -5,15 +5,19 @@ import unittest
 
 from helpers import LONE, PAIR, RING, TRIANGLE, edge_nets, small_nets
 from truelevels.adjust import best_paper
+from truelevels.classes import classes, is_sure, sure_against, sure_heights
 from truelevels.cuts import cut_of, least_cut, strength, strength_paper
-from truelevels.errors import BadNet
+from truelevels.errors import LevelError
 from truelevels.judge import is_even, judge, worth
+from truelevels.leastcuts import best_pair, least_cuts, weak_readings
 from truelevels.misses import cost, lies, miss_of, misses
 from truelevels.nets import check_net, is_joined, reached
 from truelevels.spans import is_one, spans
 from truelevels.text import parse, shown
+from truelevels.tree import cut_tree, least_size
 from truelevels.weights import (broken_side, check_weights, firmness, judge_weighted, twin_of, weighted_cost,
                                 weighted_paper)
+from truelevels.worlds import is_safe, is_world, most_lies, twins, verdicts, worlds
 
 NETS = [LONE, PAIR, TRIANGLE, RING] + small_nets(9, 12) + edge_nets(9)[:2]
 TEXTS = ["marks a", "marks a b\na to b is 7", "marks a b", "marks a a", "", "%", "marks a b\na to b is 7\nx"]
@@ -24,11 +28,11 @@ PAPERS = [["best", [0, 7], [0, 1, 1]], ("best", (0, 7), [0, 1, 1]), ("strength",
 
 
 def answer(function, arguments):
-    """What a call gives back, or line and reason of what it raises."""
+    """What a call gives back, or the kind and the fields of what it raises."""
     try:
         return ("gives", function(*arguments))
-    except BadNet as error:
-        return ("raises", error.line, error.reason)
+    except LevelError as error:
+        return ("raises", type(error).__name__) + tuple(sorted(vars(error).items()))
 
 
 def calls():
@@ -43,6 +47,7 @@ def calls():
         yield from [(function, (net, heights)) for function in (misses, cost, lies)]
         yield from [(miss_of, (reading, heights)) for reading in net[2]]
         yield from calls_by_flows_and_cuts(net, heights)
+        yield from calls_by_worlds_and_classes(net, heights)
     yield from [(parse, (text,)) for text in TEXTS]
     yield from [(check_net, (thing,)) for thing in THINGS]
     for paper in PAPERS:
@@ -68,6 +73,21 @@ def calls_by_flows_and_cuts(net, heights):
         yield twin_of, (net, weights, (last,), 2)
         yield least_cut, (net, 0, last)
         yield least_cut, (net, last, 0)
+
+
+def calls_by_worlds_and_classes(net, heights):
+    """Functions on trees of cuts, worlds, sure differences and least cuts with arguments."""
+    yield from [(function, (net,)) for function in (cut_tree, most_lies, least_cuts, weak_readings, best_pair)]
+    for k in (0, 1, 2, 99):
+        yield from [(function, (net, k)) for function in (worlds, verdicts, is_safe, twins)]
+        yield from [(function, (net, k, heights)) for function in (is_world, sure_heights)]
+        yield classes, (net, k + 1)
+    if len(net[1]) > 1:
+        last = len(net[1]) - 1
+        for one, other in ((0, last), (last, 0)):
+            yield least_size, (cut_tree(net), one, other)
+            yield is_sure, (net, 1, one, other)
+            yield sure_against, (net, one, other)
 
 
 class Calls(unittest.TestCase):

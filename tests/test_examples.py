@@ -5,12 +5,16 @@ import inspect
 import unittest
 
 from truelevels.adjust import best_paper
+from truelevels.classes import classes, is_sure
 from truelevels.cuts import cut_of, strength
 from truelevels.errors import BadNet
+from truelevels.leastcuts import least_cuts, weak_readings
 from truelevels.misses import cost, lies, misses
 from truelevels.spans import is_one, spans
 from truelevels.text import parse
+from truelevels.tree import cut_tree, least_size
 from truelevels.weights import broken_side, firmness, twin_of
+from truelevels.worlds import is_safe, most_lies, verdicts, worlds
 
 INTERFACE = {
     "errors": {"LevelError": None, "BadNet": None, "BadEntry": None, "BadState": None},
@@ -24,6 +28,12 @@ INTERFACE = {
     "weights": {"check_weights": "net weights", "weighted_cost": "net weights heights", "weighted_paper": "net weights",
                 "judge_weighted": "net weights paper", "broken_side": "net weights k", "firmness": "net weights",
                 "twin_of": "net weights side k"},
+    "tree": {"cut_tree": "net", "least_size": "tree one other"},
+    "worlds": {"is_world": "net k heights", "worlds": "net k", "verdicts": "net k", "is_safe": "net k",
+               "twins": "net k", "most_lies": "net"},
+    "classes": {"classes": "net t", "is_sure": "net k one other", "sure_against": "net one other",
+                "sure_heights": "net k heights"},
+    "leastcuts": {"least_cuts": "net", "weak_readings": "net", "best_pair": "net"},
 }
 
 
@@ -71,6 +81,20 @@ class Examples(unittest.TestCase):
         self.assertEqual((firmness(net, (1, 1, 1)), firmness(net, (1, 1, 2)), broken_side(net, (1, 1, 2), 1)),
                          (1, 0, (1,)))
         self.assertEqual(twin_of(net, (1, 5, 2), (1,), 1), ("net", ("a", "b"), ((0, 1, 0), (1, 0, -1), (0, 1, 0))))
+
+    def test_tree(self):
+        tree = cut_tree(("net", ("a", "b", "c"), ((0, 1, 7), (0, 1, 5), (1, 2, 3), (2, 0, 1))))
+        self.assertEqual((least_size(tree, 0, 1), least_size(tree, 1, 2), tree[0]), (3, 2, (0, 3)))
+
+    def test_worlds(self):
+        net = ("net", ("a", "b"), ((0, 1, 7), (1, 0, -7), (0, 1, 9)))
+        self.assertEqual((is_safe(net, 1), most_lies(net), worlds(net, 1), verdicts(net, 1)),
+                         (True, 1, ((0, 7),), ("kept", "kept", "lies")))
+
+    def test_classes_and_least_cuts(self):
+        net = ("net", ("a", "b", "c"), ((0, 1, 7), (1, 2, 3), (2, 0, -9)))
+        self.assertEqual((classes(net, 2), classes(net, 3), is_sure(net, 0, 0, 1), least_cuts(net), weak_readings(net)),
+                         (((0, 1, 2),), ((0,), (1,), (2,)), True, ((1,), (2,), (1, 2)), (0, 1, 2)))
 
 
 if __name__ == "__main__":

@@ -3,16 +3,14 @@
 import random
 import unittest
 
-from helpers import LONE, PAIR, RING, TRIANGLE, all_heights, drawn_net, edge_nets, small_nets, sum_of_misses
+from helpers import LONE, PAIR, RING, TRIANGLE, best_by_search, drawn_net, edge_nets, small_nets
 from truelevels.adjust import best_paper
 from truelevels.spans import is_one, spans
 
 
 def spans_by_search(net, reach):
     """The spans, and whether there is one tuple of best heights, by a search over all heights."""
-    costs = [(sum_of_misses(net, heights), heights) for heights in all_heights(net, reach)]
-    least = min(costs)[0]
-    best = [heights for price, heights in costs if price == least]
+    best = best_by_search(net, reach)
     return tuple((min(row), max(row)) for row in zip(*best)), len(best) == 1
 
 

@@ -1,6 +1,9 @@
 """Cuts of a net, ways that share no reading, and the strength."""
 
+from truelevels.errors import BadNet
 from truelevels.nets import neighbours
+
+MOST_MARKS_FOR_SIDES = 12
 
 
 def cut_of(net, side):
@@ -16,6 +19,25 @@ def all_sides(many):
     for mark in range(1, many):
         sides = sides + [side + (mark,) for side in sides]
     return sides[1:]
+
+
+def sides_looked_at(net):
+    """All sides of a net that is small enough to look at them."""
+    _, marks, _ = net
+    if len(marks) > MOST_MARKS_FOR_SIDES:
+        raise BadNet(0, "too great")
+    return all_sides(len(marks))
+
+
+def most_parted(many, sides):
+    """Of so many marks the first pair, one below other, that the most sides part, and their number; () for one mark."""
+    pairs = [(one, other) for one in range(many) for other in range(one + 1, many)]
+    if not pairs:
+        return ()
+    counts = [len([side for side in sides if (one in side) != (other in side)]) for one, other in pairs]
+    most = max(counts)
+    one, other = pairs[counts.index(most)]
+    return (one, other, most)
 
 
 def least_cut(net, one, other):

@@ -1,14 +1,13 @@
 """Nets whose readings have weights, and how many lies they stand."""
 
 from truelevels.adjust import proved_heights
-from truelevels.cuts import all_sides, cut_of
+from truelevels.cuts import cut_of, sides_looked_at
 from truelevels.errors import BadNet
 from truelevels.judge import has_proof, worth
 from truelevels.misses import misses
 from truelevels.shapes import is_row, is_whole
 
 MOST_WEIGHT = 100
-MOST_MARKS_FOR_SIDES = 12
 
 
 def check_weights(net, weights):
@@ -55,14 +54,6 @@ def firmness(net, weights):
     _, _, readings = net
     breaking = [least_breaking(net, weights, side) for side in sides_looked_at(net)]
     return min(breaking + [len(readings) + 1]) - 1
-
-
-def sides_looked_at(net):
-    """All sides of a net that is small enough to look at them."""
-    _, marks, _ = net
-    if len(marks) > MOST_MARKS_FOR_SIDES:
-        raise BadNet(0, "too great")
-    return all_sides(len(marks))
 
 
 def least_breaking(net, weights, side):
