@@ -5,6 +5,8 @@ import unittest
 
 from helpers import LONE, PAIR, RING, TRIANGLE, edge_nets, small_nets
 from truelevels.adjust import best_paper
+from truelevels.asks import asks, depth_of, followed
+from truelevels.bridges import best_further, bridges, halves, unseen
 from truelevels.classes import classes, is_sure, sure_against, sure_heights
 from truelevels.cuts import cut_of, least_cut, strength, strength_paper
 from truelevels.errors import LevelError
@@ -12,9 +14,12 @@ from truelevels.judge import is_even, judge, worth
 from truelevels.leastcuts import best_pair, least_cuts, weak_readings
 from truelevels.misses import cost, lies, miss_of, misses
 from truelevels.nets import check_net, is_joined, reached
+from truelevels.papertext import parse_paper, shown_paper
+from truelevels.profile import profile
 from truelevels.spans import is_one, spans
 from truelevels.text import parse, shown
 from truelevels.tree import cut_tree, least_size
+from truelevels.waytext import sure_text, ways_text
 from truelevels.weights import (broken_side, check_weights, firmness, judge_weighted, twin_of, weighted_cost,
                                 weighted_paper)
 from truelevels.worlds import is_safe, is_world, most_lies, twins, verdicts, worlds
@@ -48,6 +53,7 @@ def calls():
         yield from [(miss_of, (reading, heights)) for reading in net[2]]
         yield from calls_by_flows_and_cuts(net, heights)
         yield from calls_by_worlds_and_classes(net, heights)
+        yield from calls_by_asks_and_texts(net, heights)
     yield from [(parse, (text,)) for text in TEXTS]
     yield from [(check_net, (thing,)) for thing in THINGS]
     for paper in PAPERS:
@@ -88,6 +94,27 @@ def calls_by_worlds_and_classes(net, heights):
             yield least_size, (cut_tree(net), one, other)
             yield is_sure, (net, 1, one, other)
             yield sure_against, (net, one, other)
+
+
+def calls_by_asks_and_texts(net, heights):
+    """Functions on asks, profiles, texts of papers and of ways, and bridges with arguments."""
+    for k in (0, 1, 2, 99):
+        yield asks, (net, k)
+        yield sure_text, (net, k, heights)
+    tree = ("ask", 0, ((1, ("world", heights)), (2, ("ask", 1, ((1, ("world", heights[::-1])),)))))
+    yield depth_of, (tree,)
+    yield followed, (net, tree if len(net[2]) > 1 else tree[2][0][1], heights)
+    yield profile, (net, heights)
+    paper = best_paper(net)
+    yield shown_paper, (paper,)
+    for text in (shown_paper(paper), "best\nheights 0\nflow\n", "best\n", ""):
+        yield parse_paper, (net, text)
+    yield from [(function, (net,)) for function in (bridges, best_further)]
+    yield from [(halves, (net, index)) for index in bridges(net)]
+    yield from [(unseen, (net, index, 3)) for index in range(len(net[2]))]
+    if len(net[1]) > 1:
+        yield ways_text, (net, 0, len(net[1]) - 1)
+        yield ways_text, (net, len(net[1]) - 1, 0)
 
 
 class Calls(unittest.TestCase):

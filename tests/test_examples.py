@@ -10,6 +10,8 @@ from truelevels.cuts import cut_of, strength
 from truelevels.errors import BadNet
 from truelevels.leastcuts import least_cuts, weak_readings
 from truelevels.misses import cost, lies, misses
+from truelevels.papertext import shown_paper
+from truelevels.profile import profile
 from truelevels.spans import is_one, spans
 from truelevels.text import parse
 from truelevels.tree import cut_tree, least_size
@@ -34,6 +36,11 @@ INTERFACE = {
     "classes": {"classes": "net t", "is_sure": "net k one other", "sure_against": "net one other",
                 "sure_heights": "net k heights"},
     "leastcuts": {"least_cuts": "net", "weak_readings": "net", "best_pair": "net"},
+    "asks": {"asks": "net k", "depth_of": "tree", "followed": "net tree heights"},
+    "profile": {"profile": "net heights"},
+    "papertext": {"shown_paper": "paper", "parse_paper": "net text"},
+    "bridges": {"bridges": "net", "halves": "net index", "unseen": "net index more", "best_further": "net"},
+    "waytext": {"ways_text": "net one other", "sure_text": "net k heights"},
 }
 
 
@@ -95,6 +102,13 @@ class Examples(unittest.TestCase):
         net = ("net", ("a", "b", "c"), ((0, 1, 7), (1, 2, 3), (2, 0, -9)))
         self.assertEqual((classes(net, 2), classes(net, 3), is_sure(net, 0, 0, 1), least_cuts(net), weak_readings(net)),
                          (((0, 1, 2),), ((0,), (1,), (2,)), True, ((1,), (2,), (1, 2)), (0, 1, 2)))
+
+    def test_profile(self):
+        net = ("net", ("a", "b"), ((0, 1, 7), (1, 0, -7), (0, 1, 9)))
+        self.assertEqual(profile(net, (0, 7)), "7 b\n  | 7\n0 a\n")
+
+    def test_papertext(self):
+        self.assertEqual(shown_paper(("best", (0, 7), (1, 1, 0))), "best\nheights 0 7\nflow 1 1 0\n")
 
 
 if __name__ == "__main__":

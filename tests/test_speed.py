@@ -5,11 +5,17 @@ import time
 import unittest
 
 from helpers import NAMES, drawn_net, edge_nets, with_lies
+from truelevels.adjust import best_paper
+from truelevels.asks import asks
+from truelevels.bridges import best_further, bridges, halves, unseen
 from truelevels.classes import classes, is_sure, sure_against, sure_heights
 from truelevels.cuts import strength
 from truelevels.errors import BadState
 from truelevels.leastcuts import best_pair, least_cuts, weak_readings
+from truelevels.papertext import parse_paper, shown_paper
+from truelevels.profile import profile
 from truelevels.tree import cut_tree, least_size
+from truelevels.waytext import sure_text, ways_text
 from truelevels.worlds import is_safe, is_world, most_lies, twins, verdicts, worlds
 
 SECONDS = 3
@@ -86,6 +92,34 @@ class Speed(Timed):
         for net in (ring, drawn_net(draw, 12, 80, 9), even_net(draw, 12, 6, (0, 1))):
             for function in (least_cuts, weak_readings, best_pair):
                 self.quick(function, net)
+
+    def test_asks(self):
+        draw = random.Random(113)
+        for net in great_nets(113):
+            size = strength(net)
+            heights = (0,) + tuple(draw.randint(-9, 9) for _ in net[1][1:])
+            for k in sorted({0, 1, size // 2, size - 1}):
+                for told in (net, with_lies(draw, net, heights, k, 3)):
+                    self.quick(asks, told, k)
+
+    def test_profiles_and_texts(self):
+        for net in great_nets(114):
+            last = len(net[1]) - 1
+            paper = best_paper(net)
+            self.quick(profile, net, paper[1])
+            self.quick(parse_paper, net, self.quick(shown_paper, paper))
+            self.quick(ways_text, net, 0, last)
+            self.quick(ways_text, net, last, 0)
+            for k in (0, 1, 40):
+                self.quick(sure_text, net, k, paper[1])
+
+    def test_bridges(self):
+        draw = random.Random(115)
+        for net in great_nets(115) + [drawn_net(draw, 16, many, 9) for many in (0, 18, 80)]:
+            for index in self.quick(bridges, net):
+                self.quick(halves, net, index)
+            self.quick(unseen, net, 0, 5)
+            self.quick(best_further, net)
 
 
 if __name__ == "__main__":
