@@ -174,6 +174,30 @@ def are_apart(ways):
     return len(set(used)) == len(used)
 
 
+def rings_of(net):
+    """All rings of a small net, by their readings and ways, each once for its first mark and way round."""
+    found = []
+
+    def go_on(steps, marks):
+        for index, (start, end, _) in enumerate(net[2]):
+            if index in [step[0] for step in steps]:
+                continue
+            for way, here, there in ((1, start, end), (-1, end, start)):
+                if here == marks[-1] and there == marks[0] and steps:
+                    found.append(tuple(steps + [(index, way)]))
+                elif here == marks[-1] and there not in marks:
+                    go_on(steps + [(index, way)], marks + [there])
+
+    for mark in range(len(net[1])):
+        go_on([], [mark])
+    return found
+
+
+def all_closings(net):
+    """What all rings of a net close with."""
+    return {ring: sum(way * net[2][index][2] for index, way in ring) for ring in rings_of(net)}
+
+
 def places(thing):
     """The places of a thing made of tuples: the ways to all of its parts, and to itself."""
     yield ()
@@ -212,3 +236,16 @@ def drawn_thing(draw, depth=3):
         parts = [drawn_thing(draw, depth - 1) for _ in range(draw.randrange(5))]
         return tuple(parts) if draw.random() < 0.7 else parts
     return draw.choice(("best", "strength", "weighted", "net", "a", "", None, True, False, 0, 1, -1, 2, 10 ** 30))
+
+
+def parts_of(thing):
+    """The thing and all that it is made of."""
+    yield thing
+    if isinstance(thing, (tuple, list)):
+        for part in thing:
+            yield from parts_of(part)
+
+
+def is_made_of_tuples(thing):
+    """True for what is made of tuples and integers alone; True and False are none."""
+    return all(type(part) in (tuple, int) for part in parts_of(thing))

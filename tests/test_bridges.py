@@ -4,7 +4,8 @@ import itertools
 import random
 import unittest
 
-from helpers import LONE, NAMES, PAIR, RING, TRIANGLE, all_sides, cut_by_hand, drawn_net, edge_nets, is_plain, small_nets
+from helpers import (LONE, NAMES, PAIR, RING, TRIANGLE, all_closings, all_sides, cut_by_hand, drawn_net, edge_nets,
+                     is_plain, small_nets)
 from truelevels.bridges import best_further, bridges, halves, unseen
 
 PATH = ("net", NAMES[:5], ((0, 1, 5), (2, 1, 3), (1, 2, -3), (2, 3, 8), (4, 3, -1)))
@@ -15,30 +16,6 @@ def bridges_by_sides(net):
     """The bridges with the sides that they are the cuts of."""
     cuts = [(cut_by_hand(net, side), side) for side in all_sides(net)]
     return {cut[0]: side for cut, side in cuts if len(cut) == 1}
-
-
-def rings_of(net):
-    """All rings of a small net, by their readings and ways, each once for its first mark and way round."""
-    found = []
-
-    def go_on(steps, marks):
-        for index, (start, end, _) in enumerate(net[2]):
-            if index in [step[0] for step in steps]:
-                continue
-            for way, here, there in ((1, start, end), (-1, end, start)):
-                if here == marks[-1] and there == marks[0] and steps:
-                    found.append(tuple(steps + [(index, way)]))
-                elif here == marks[-1] and there not in marks:
-                    go_on(steps + [(index, way)], marks + [there])
-
-    for mark in range(len(net[1])):
-        go_on([], [mark])
-    return found
-
-
-def closings(net):
-    """What all rings of a net close with."""
-    return {ring: sum(way * net[2][index][2] for index, way in ring) for ring in rings_of(net)}
 
 
 class Bridges(unittest.TestCase):
@@ -126,9 +103,9 @@ class Unseen(unittest.TestCase):
         for net in small_nets(154, 80, most_marks=5, most_readings=6):
             found = bridges(net)
             for index in range(len(net[2])):
-                same = closings(unseen(net, index, 5)) == closings(net)
+                same = all_closings(unseen(net, index, 5)) == all_closings(net)
                 self.assertIs(same, index in found, (net, index))
-                seen.add((same, len(closings(net)) > 0))
+                seen.add((same, len(all_closings(net)) > 0))
         self.assertEqual(seen, {(True, False), (True, True), (False, True)})
 
 

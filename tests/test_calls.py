@@ -3,22 +3,26 @@
 import copy
 import unittest
 
-from helpers import LONE, PAIR, RING, TRIANGLE, edge_nets, small_nets
+from helpers import LONE, PAIR, RING, TRIANGLE, edge_nets, parts_of, small_nets
 from truelevels.adjust import best_paper
 from truelevels.asks import asks, depth_of, followed
 from truelevels.bridges import best_further, bridges, halves, unseen
+from truelevels.checks import check_heights, check_indices, check_side
 from truelevels.classes import classes, is_sure, sure_against, sure_heights
 from truelevels.cuts import cut_of, least_cut, strength, strength_paper
 from truelevels.errors import LevelError
 from truelevels.judge import is_even, judge, worth
 from truelevels.leastcuts import best_pair, least_cuts, weak_readings
 from truelevels.misses import cost, lies, miss_of, misses
+from truelevels.near import bound, doubts, far_apart, is_near
 from truelevels.nets import check_net, is_joined, reached
 from truelevels.papertext import parse_paper, shown_paper
 from truelevels.profile import profile
+from truelevels.rings import are_seen, closing, closings, explanations, is_ring, rings
 from truelevels.spans import is_one, spans
 from truelevels.text import parse, shown
 from truelevels.tree import cut_tree, least_size
+from truelevels.trusted import fewest_trusted, heights_of, homes, is_safe_with, merged, sure_lies, trusted_best
 from truelevels.waytext import sure_text, ways_text
 from truelevels.weights import (broken_side, check_weights, firmness, judge_weighted, twin_of, weighted_cost,
                                 weighted_paper)
@@ -54,8 +58,12 @@ def calls():
         yield from calls_by_flows_and_cuts(net, heights)
         yield from calls_by_worlds_and_classes(net, heights)
         yield from calls_by_asks_and_texts(net, heights)
+        yield from calls_by_rings_and_noise(net, heights)
+        yield from calls_by_trusted(net, heights)
     yield from [(parse, (text,)) for text in TEXTS]
     yield from [(check_net, (thing,)) for thing in THINGS]
+    for thing in THINGS + PAPERS + [[0, 7], (0, 7), [1], (1,), [0, 2], (0, 2), ([0], [1])]:
+        yield from [(function, (PAIR, thing)) for function in (check_heights, check_side, check_indices)]
     for paper in PAPERS:
         yield judge, (PAIR, paper)
         yield judge_weighted, (PAIR, (1, 2, 3), paper)
@@ -117,6 +125,29 @@ def calls_by_asks_and_texts(net, heights):
         yield ways_text, (net, len(net[1]) - 1, 0)
 
 
+def calls_by_rings_and_noise(net, heights):
+    """Functions on rings and near levels with arguments."""
+    yield from [(function, (net,)) for function in (rings, closings)]
+    for ring in rings(net)[:5]:
+        yield from [(function, (net, ring)) for function in (closing, is_ring)]
+        yield is_ring, (net, ring[::-1])
+    for k in (0, 1, 2, 3, 99):
+        yield from [(function, (net, k)) for function in (are_seen, explanations)]
+        yield bound, (net, k, 3)
+        yield from [(function, (net, k, 3, heights)) for function in (is_near, doubts)]
+    yield far_apart, (heights, heights[::-1])
+
+
+def calls_by_trusted(net, heights):
+    """Functions on trusted readings with arguments."""
+    for trusted in ((), (0,), (0, 1), tuple(range(len(net[2])))):
+        if len(trusted) <= len(net[2]):
+            yield from [(function, (net, trusted)) for function in (homes, merged, trusted_best, sure_lies)]
+            yield heights_of, (net, trusted, heights)
+            yield is_safe_with, (net, trusted, 1)
+    yield from [(fewest_trusted, (net, k)) for k in (0, 1, 2)]
+
+
 class Calls(unittest.TestCase):
     def test_arguments_are_not_changed(self):
         for function, arguments in calls():
@@ -134,14 +165,6 @@ class Calls(unittest.TestCase):
         for function, arguments in calls():
             for part in parts_of(answer(function, arguments)):
                 self.assertIn(type(part), (tuple, str, int, bool, type(None)))
-
-
-def parts_of(thing):
-    """The thing and all that it is made of."""
-    yield thing
-    if isinstance(thing, (tuple, list)):
-        for part in thing:
-            yield from parts_of(part)
 
 
 if __name__ == "__main__":

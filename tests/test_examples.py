@@ -10,11 +10,14 @@ from truelevels.cuts import cut_of, strength
 from truelevels.errors import BadNet
 from truelevels.leastcuts import least_cuts, weak_readings
 from truelevels.misses import cost, lies, misses
+from truelevels.near import bound
 from truelevels.papertext import shown_paper
 from truelevels.profile import profile
+from truelevels.rings import closings, rings
 from truelevels.spans import is_one, spans
 from truelevels.text import parse
 from truelevels.tree import cut_tree, least_size
+from truelevels.trusted import homes, merged
 from truelevels.weights import broken_side, firmness, twin_of
 from truelevels.worlds import is_safe, most_lies, verdicts, worlds
 
@@ -41,6 +44,14 @@ INTERFACE = {
     "papertext": {"shown_paper": "paper", "parse_paper": "net text"},
     "bridges": {"bridges": "net", "halves": "net index", "unseen": "net index more", "best_further": "net"},
     "waytext": {"ways_text": "net one other", "sure_text": "net k heights"},
+    "checks": {"check_heights": "net thing", "check_side": "net thing", "check_indices": "net thing"},
+    "rings": {"rings": "net", "closing": "net ring", "closings": "net", "is_ring": "net ring",
+              "explanations": "net k", "are_seen": "net k"},
+    "near": {"bound": "net k r", "is_near": "net k r heights", "far_apart": "first second",
+             "doubts": "net k r heights"},
+    "trusted": {"homes": "net trusted", "merged": "net trusted", "heights_of": "net trusted heights",
+                "trusted_best": "net trusted", "sure_lies": "net trusted", "is_safe_with": "net trusted k",
+                "fewest_trusted": "net k"},
 }
 
 
@@ -109,6 +120,19 @@ class Examples(unittest.TestCase):
 
     def test_papertext(self):
         self.assertEqual(shown_paper(("best", (0, 7), (1, 1, 0))), "best\nheights 0 7\nflow 1 1 0\n")
+
+    def test_rings(self):
+        net = ("net", ("a", "b", "c"), ((0, 1, 7), (1, 2, 3), (2, 0, -9)))
+        self.assertEqual((rings(net), closings(net)), ((((1, 1), (2, 1), (0, 1)),), (1,)))
+
+    def test_near(self):
+        net = ("net", ("a", "b"), ((0, 1, 7), (1, 0, -7), (0, 1, 9)))
+        self.assertEqual((bound(net, 1, 2), bound(net, 2, 2)), (12, -1))
+
+    def test_trusted(self):
+        net = ("net", ("a", "b", "c"), ((0, 1, 7), (1, 2, 3), (2, 0, -9)))
+        self.assertEqual((homes(net, (0,)), merged(net, (0,))),
+                         (((0, 0, 2), (0, 7, 0)), ("net", ("a", "c"), ((0, 1, 10), (1, 0, -9)))))
 
 
 if __name__ == "__main__":

@@ -4,17 +4,21 @@ import random
 import time
 import unittest
 
-from helpers import NAMES, drawn_net, edge_nets, with_lies
+from helpers import NAMES, drawn_net, edge_nets, kept_values, lies_by_hand, with_lies
 from truelevels.adjust import best_paper
 from truelevels.asks import asks
 from truelevels.bridges import best_further, bridges, halves, unseen
+from truelevels.checks import check_heights, check_indices, check_side
 from truelevels.classes import classes, is_sure, sure_against, sure_heights
 from truelevels.cuts import strength
 from truelevels.errors import BadState
 from truelevels.leastcuts import best_pair, least_cuts, weak_readings
+from truelevels.near import bound, doubts, far_apart, is_near
 from truelevels.papertext import parse_paper, shown_paper
 from truelevels.profile import profile
+from truelevels.rings import are_seen, closings, explanations, is_ring, rings
 from truelevels.tree import cut_tree, least_size
+from truelevels.trusted import fewest_trusted, heights_of, homes, is_safe_with, merged, sure_lies, trusted_best
 from truelevels.waytext import sure_text, ways_text
 from truelevels.worlds import is_safe, is_world, most_lies, twins, verdicts, worlds
 
@@ -120,6 +124,63 @@ class Speed(Timed):
                 self.quick(halves, net, index)
             self.quick(unseen, net, 0, 5)
             self.quick(best_further, net)
+
+    def test_checks(self):
+        for net in great_nets(116):
+            marks = tuple(range(len(net[1])))
+            self.quick(check_heights, net, tuple(mark * 1000000 for mark in marks))
+            self.quick(check_side, net, marks[1:])
+            self.quick(check_indices, net, tuple(range(80)))
+
+    def test_rings(self):
+        for net in great_nets(117):
+            self.quick(closings, net)
+            for ring in self.quick(rings, net):
+                self.quick(is_ring, net, ring)
+            for k in (0, 4, 80):
+                self.quick(are_seen, net, k)
+
+    def test_explanations(self):
+        draw = random.Random(118)
+        for k, most in ((2, 80), (3, 49), (4, 26), (5, 19), (6, 16), (7, 15), (15, 14)):
+            for many in (2, 3, 5, 9, 12, 16):
+                for net in (drawn_net(draw, many, most, 2), drawn_net(draw, many, most, 1000000)):
+                    heights = tuple(7 * mark for mark in range(len(net[1])))
+                    for told in (net, kept_values(net, heights), with_lies(draw, net, heights, k, 1000)):
+                        self.quick(explanations, told, k)
+            ring = ("net", NAMES[:most], tuple((mark % 16, (mark + 1) % 16, mark) for mark in range(most)))
+            if most >= 16:
+                self.quick(explanations, ring, k)
+
+    def test_near_levels(self):
+        for net in great_nets(119):
+            heights = tuple(7 * mark for mark in range(len(net[1])))
+            self.quick(far_apart, heights, heights[::-1])
+            for k in (0, 1, 4, 40):
+                self.quick(bound, net, k, 1000)
+                self.quick(is_near, net, k, 1000, heights)
+                self.quick(doubts, net, k, 1000, heights)
+
+    def test_trusted_readings(self):
+        draw = random.Random(120)
+        for net in great_nets(120):
+            heights = tuple(7 * mark for mark in range(len(net[1])))
+            told = with_lies(draw, net, heights, 40, 1000)
+            for many in (0, 3, 10, 40):
+                kept = [index for index in range(80) if index not in lies_by_hand(told, heights)]
+                trusted = tuple(kept[:many])
+                for function in (homes, merged, trusted_best, sure_lies):
+                    self.quick(function, told, trusted)
+                self.quick(heights_of, told, trusted, heights)
+                self.quick(is_safe_with, told, trusted, 2)
+
+    def test_fewest_trusted(self):
+        draw = random.Random(121)
+        rows = [("net", NAMES[:13], tuple((mark, mark + 1, 3) for mark in range(12))),
+                ("net", NAMES[:12], tuple((mark, (mark + 1) % 12, 3) for mark in range(12)))]
+        for net in rows + [drawn_net(draw, many, 12, 1000000) for many in range(2, 14) for _ in range(3)]:
+            for k in (0, 1, 2, 3, 6):
+                self.quick(fewest_trusted, net, k)
 
 
 if __name__ == "__main__":

@@ -76,8 +76,14 @@ def reached(many, readings, start):
 
 def neighbours(many, readings):
     """For each mark the steps from it: index of the reading, way over it (1 or -1), and where one comes to."""
+    return neighbours_over(many, readings, tuple(range(len(readings))))
+
+
+def neighbours_over(many, readings, chosen):
+    """For each mark the steps from it over the readings with these indices alone."""
     near = [[] for _ in range(many)]
-    for index, (start, end, _) in enumerate(readings):
+    for index in chosen:
+        start, end, _ = readings[index]
         near[start].append((index, 1, end))
         near[end].append((index, -1, start))
     return near

@@ -33,12 +33,14 @@ def are_heights(net, thing):
     return all(is_whole(height) for height in thing) and thing[0] == 0
 
 
+def are_indices(thing, many):
+    """True for a tuple of integers, each of which counts one of many things from 0, ascending."""
+    if not isinstance(thing, tuple) or not all(is_index(index, many) for index in thing):
+        return False
+    return all(before < index for before, index in zip(thing, thing[1:]))
+
+
 def is_side(net, thing):
     """True for indices of marks, ascending, at least one, without the first mark."""
     _, marks, _ = net
-    if not isinstance(thing, tuple) or not thing:
-        return False
-    if not all(is_index(mark, len(marks)) for mark in thing):
-        return False
-    # With 0 ahead, a side that ascends from there cannot have the first mark.
-    return all(before < mark for before, mark in zip((0,) + thing, thing))
+    return are_indices(thing, len(marks)) and len(thing) > 0 and thing[0] > 0
