@@ -249,3 +249,50 @@ def parts_of(thing):
 def is_made_of_tuples(thing):
     """True for what is made of tuples and integers alone; True and False are none."""
     return all(type(part) in (tuple, int) for part in parts_of(thing))
+
+
+def least_of_all_cuts(many, readings):
+    """The least size of all cuts of a net with two marks or more, side by side from lesser sides."""
+    between = [[0] * many for _ in range(many)]
+    for start, end, *_ in readings:
+        between[start][end] += 1
+        between[end][start] += 1
+    sizes = [0]
+    for mark in range(1, many):
+        inner = [0]
+        for other in range(1, mark):
+            inner += [count + between[mark][other] for count in inner]
+        sizes += [size + sum(between[mark]) - 2 * count for size, count in zip(sizes, inner)]
+    return min(sizes[1:])
+
+
+def lacks_by_hand(net, t, part):
+    """The lack of a set of marks."""
+    return max(0, t - sum((start in part) != (end in part) for start, end, _ in net[2]))
+
+
+def plan_is_right(net, t, plan):
+    """True if a plan holds, by sums made here."""
+    many = len(net[1])
+    if type(plan) is not tuple or len(plan) != 3 or type(plan[0]) is not str or plan[0] != "plan":
+        return False
+    _, pairs, parting = plan
+    for rows in (pairs, parting):
+        if type(rows) is not tuple or any(type(row) is not tuple or not all(map(is_plain, row)) for row in rows):
+            return False
+        if any(list(row) != sorted(set(row)) or not set(row) <= set(range(many)) for row in rows):
+            return False
+    if any(len(pair) != 2 for pair in pairs) or list(pairs) != sorted(pairs):
+        return False
+    if any(not 0 < len(part) < many for part in parting) or not are_apart(parting):
+        return False
+    total = sum(lacks_by_hand(net, t, part) for part in parting)
+    if 2 * len(pairs) not in (total, total + 1):
+        return False
+    return many == 1 or least_of_all_cuts(many, net[2] + pairs) >= t
+
+
+def spans_by_search(net, reach):
+    """The spans of a small net, by all of its best heights."""
+    best = best_by_search(net, reach)
+    return tuple((min(row), max(row)) for row in zip(*best))

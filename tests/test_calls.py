@@ -10,14 +10,19 @@ from truelevels.bridges import best_further, bridges, halves, unseen
 from truelevels.checks import check_heights, check_indices, check_side
 from truelevels.classes import classes, is_sure, sure_against, sure_heights
 from truelevels.cuts import cut_of, least_cut, strength, strength_paper
+from truelevels.desk import Desk
 from truelevels.errors import LevelError
 from truelevels.judge import is_even, judge, worth
 from truelevels.leastcuts import best_pair, least_cuts, weak_readings
+from truelevels.logs import mended, read_log, replay, shown_log
 from truelevels.misses import cost, lies, miss_of, misses
+from truelevels.more import lack, plan_of
 from truelevels.near import bound, doubts, far_apart, is_near
 from truelevels.nets import check_net, is_joined, reached
 from truelevels.papertext import parse_paper, shown_paper
+from truelevels.planjudge import judge_plan
 from truelevels.profile import profile
+from truelevels.reports import report
 from truelevels.rings import are_seen, closing, closings, explanations, is_ring, rings
 from truelevels.spans import is_one, spans
 from truelevels.text import parse, shown
@@ -60,6 +65,8 @@ def calls():
         yield from calls_by_asks_and_texts(net, heights)
         yield from calls_by_rings_and_noise(net, heights)
         yield from calls_by_trusted(net, heights)
+        yield from calls_by_plans_and_reports(net)
+    yield from calls_by_logs()
     yield from [(parse, (text,)) for text in TEXTS]
     yield from [(check_net, (thing,)) for thing in THINGS]
     for thing in THINGS + PAPERS + [[0, 7], (0, 7), [1], (1,), [0, 2], (0, 2), ([0], [1])]:
@@ -148,6 +155,34 @@ def calls_by_trusted(net, heights):
     yield from [(fewest_trusted, (net, k)) for k in (0, 1, 2)]
 
 
+def calls_by_plans_and_reports(net):
+    """Functions on further readings and reports with arguments."""
+    for t in (2, 3, 20):
+        yield plan_of, (net, t)
+        yield judge_plan, (net, t, plan_of(net, t))
+        yield judge_plan, (net, t, ["plan", [[0, 1]], [[0], [1]]])
+        yield judge_plan, (net, t, ("plan", ([0, 1],), ((0,), [1])))
+        if len(net[1]) > 1:
+            yield lack, (net, t, (0, len(net[1]) - 1) if len(net[1]) > 2 else (1,))
+    yield report, (net,)
+
+
+def calls_by_logs():
+    """Functions on logs with arguments, desks in the shape of what they tell."""
+    for text in ("", "mark a\nmark b\nread a b 7\ndrop 0\nbound 3\n", "mark a\nmark", "mark a\nmark a\n", "x"):
+        yield from [(function, (text,)) for function in (mended, read_log)]
+        yield shown_log, (mended(text)[0],)
+        yield told_after, (mended(text)[0],)
+    for log in (["mark", "a"], [["mark", "a"], ("bound", 1)], (("mark", "a"), ["mark", "b"]), (("bound", 1), None)):
+        yield told_after, (log,)
+
+
+def told_after(log):
+    """What the desk of a log tells of itself."""
+    desk = replay(log)
+    return (desk.log(), desk.numbers(), desk.bound(), desk.parts())
+
+
 class Calls(unittest.TestCase):
     def test_arguments_are_not_changed(self):
         for function, arguments in calls():
@@ -165,6 +200,23 @@ class Calls(unittest.TestCase):
         for function, arguments in calls():
             for part in parts_of(answer(function, arguments)):
                 self.assertIn(type(part), (tuple, str, int, bool, type(None)))
+
+    def test_desks_do_not_change_what_they_are_handed(self):
+        deeds = [("mark", "a"), ["mark", "b"], ("mark", ["b"]), ("mark", "b"), ("read", "a", "b", [5]), ("bound", None)]
+        kept = copy.deepcopy(deeds)
+        desk = Desk()
+        for deed in deeds:
+            answer(desk.do, (deed,))
+        self.assertEqual(repr(deeds), repr(kept))
+        self.assertEqual(desk.log(), (("mark", "a"), ("mark", "b")))
+
+    def test_what_desks_give_is_made_of_tuples_texts_and_integers(self):
+        desk = replay(mended("mark a\nmark b\nread a b 7\nread b a -9\nread a b 8\nbound 1\n")[0])
+        for method in (desk.log, desk.net, desk.numbers, desk.bound, desk.parts, desk.heights, desk.spans, desk.strength,
+                       desk.is_safe, desk.verdicts):
+            for part in parts_of(method()):
+                self.assertIn(type(part), (tuple, str, int, bool))
+            self.assertEqual(method(), method())
 
 
 if __name__ == "__main__":

@@ -7,12 +7,17 @@ import unittest
 from truelevels.adjust import best_paper
 from truelevels.classes import classes, is_sure
 from truelevels.cuts import cut_of, strength
+from truelevels.desk import Desk
 from truelevels.errors import BadNet
 from truelevels.leastcuts import least_cuts, weak_readings
+from truelevels.logs import mended, shown_log
 from truelevels.misses import cost, lies, misses
+from truelevels.more import lack
 from truelevels.near import bound
 from truelevels.papertext import shown_paper
+from truelevels.planjudge import judge_plan
 from truelevels.profile import profile
+from truelevels.reports import report
 from truelevels.rings import closings, rings
 from truelevels.spans import is_one, spans
 from truelevels.text import parse
@@ -52,7 +57,14 @@ INTERFACE = {
     "trusted": {"homes": "net trusted", "merged": "net trusted", "heights_of": "net trusted heights",
                 "trusted_best": "net trusted", "sure_lies": "net trusted", "is_safe_with": "net trusted k",
                 "fewest_trusted": "net k"},
+    "more": {"plan_of": "net t", "lack": "net t marks"},
+    "planjudge": {"judge_plan": "net t plan"},
+    "desk": {"Desk": ""},
+    "logs": {"shown_log": "log", "replay": "log", "read_log": "text", "mended": "text"},
+    "reports": {"report": "net"},
 }
+METHODS = {"do": "deed", "undo": "", "log": "", "net": "", "numbers": "", "bound": "", "parts": "", "heights": "",
+           "spans": "", "strength": "", "is_safe": "", "verdicts": ""}
 
 
 class Names(unittest.TestCase):
@@ -69,6 +81,11 @@ class Names(unittest.TestCase):
                 if arguments is not None:
                     told = list(inspect.signature(getattr(module, name)).parameters)
                     self.assertEqual(told, arguments.split(), name)
+
+    def test_the_methods_of_a_desk(self):
+        for name, arguments in METHODS.items():
+            told = list(inspect.signature(vars(Desk)[name]).parameters)
+            self.assertEqual(told, ["self"] + arguments.split(), name)
 
 
 class Examples(unittest.TestCase):
@@ -133,6 +150,28 @@ class Examples(unittest.TestCase):
         net = ("net", ("a", "b", "c"), ((0, 1, 7), (1, 2, 3), (2, 0, -9)))
         self.assertEqual((homes(net, (0,)), merged(net, (0,))),
                          (((0, 0, 2), (0, 7, 0)), ("net", ("a", "c"), ((0, 1, 10), (1, 0, -9)))))
+
+    def test_plans(self):
+        net = ("net", ("a", "b", "c"), ((0, 1, 7), (1, 2, 3), (2, 0, -9)))
+        self.assertEqual((lack(net, 3, (1,)), judge_plan(net, 3, ("plan", ((0, 1), (1, 2)), ((0,), (1,), (2,))))),
+                         (1, True))
+
+    def test_desk(self):
+        desk = Desk()
+        desk.do(("mark", "a"))
+        desk.do(("mark", "b"))
+        desk.do(("read", "a", "b", 7))
+        self.assertEqual((desk.heights(), desk.strength(), desk.numbers(), desk.parts()),
+                         ((("a", 0), ("b", 7)), 1, (0,), (("a", "b"),)))
+
+    def test_logs(self):
+        self.assertEqual((shown_log((("mark", "a"), ("bound", 2))), mended("mark a\nmark b")),
+                         ("mark a\nbound 2\n", ((("mark", "a"),), 7)))
+
+    def test_report(self):
+        net = ("net", ("a", "b"), ((0, 1, 7), (1, 0, -7), (0, 1, 9)))
+        self.assertEqual(report(net), "a 0\nb 7\na to b 7\nb to a -7\na to b 9 misses 2\ncost 2\nstrength 3\n"
+                                      "safe against 1\n")
 
 
 if __name__ == "__main__":

@@ -16,6 +16,16 @@ BUILTINS = set(
     " ArithmeticError OverflowError RuntimeError NotImplementedError AttributeError StopIteration"
     " NotImplemented".split()
 )
+METHODS = set(
+    "append clear copy count endswith extend find get index insert isalnum isalpha isdigit islower isspace isupper items"
+    " join keys ljust lower lstrip partition pop remove replace reverse rfind rjust rpartition rsplit rstrip setdefault"
+    " split splitlines startswith strip update upper values zfill bit_length add discard".split()
+)
+BARRED = set(
+    "register mro elements open input law version_info with_traceback add_note attrgetter breakpoint builtins compile"
+    " copyright credits delattr dir eval exec exit gc globals help id importlib license locals methodcaller os quit vars"
+    " sys typing enum namedtuple dataclass".split()
+)
 
 
 def sources():
@@ -115,6 +125,90 @@ class Words(unittest.TestCase):
                     self.assertNotIn(node.id, taken, f"{path.name}:{node.lineno}")
                 if isinstance(node, ast.arg):
                     self.assertNotIn(node.arg, taken, f"{path.name}:{node.lineno}")
+
+    def test_names_that_are_not_used(self):
+        for place, node in nodes():
+            names = [getattr(node, field, None) for field in ("id", "name", "arg", "attr")]
+            for name in names:
+                self.assertNotIn(name, BARRED, place)
+                if isinstance(name, str) and not isinstance(node, ast.FunctionDef):
+                    self.assertFalse(name.startswith("__"), place)
+
+    def test_methods_of_builtin_values(self):
+        own = {node.name for _, node in nodes() if isinstance(node, ast.FunctionDef)}
+        for place, node in nodes():
+            if isinstance(node, ast.Call) and isinstance(node.func, ast.Attribute):
+                self.assertIn(node.func.attr, METHODS | own, place)
+                self.assertEqual(node.keywords, [], place)
+
+    def test_no_percent_sign_in_a_string(self):
+        for place, node in nodes():
+            if isinstance(node, ast.Constant) and isinstance(node.value, str):
+                self.assertNotIn(chr(37), node.value, place)
+
+    def test_where_generator_expressions_stand(self):
+        takers = {"list", "tuple", "dict", "sorted", "sum", "min", "max", "any", "all"}
+        for path, text in sources():
+            tree = ast.parse(text)
+            taken = []
+            for node in ast.walk(tree):
+                if isinstance(node, ast.Call) and isinstance(node.func, ast.Name) and node.func.id in takers:
+                    taken += [part for part in node.args if isinstance(part, ast.GeneratorExp)]
+            for node in ast.walk(tree):
+                if isinstance(node, ast.GeneratorExp):
+                    self.assertIn(node, taken, f"{path.name}:{node.lineno}")
+                    inner = [part for part in ast.walk(node) if isinstance(part, ast.GeneratorExp)]
+                    self.assertEqual(inner, [node], f"{path.name}:{node.lineno}")
+
+    def test_what_iterates_on_the_spot_is_not_kept(self):
+        kinds = {"zip", "enumerate", "reversed", "range", "combinations"}
+        for place, node in nodes():
+            if isinstance(node, (ast.Assign, ast.Return)) and isinstance(node.value, ast.Call):
+                function = node.value.func
+                self.assertFalse(isinstance(function, ast.Name) and function.id in kinds, place)
+
+    def test_sets_are_sorted_measured_or_asked(self):
+        for path, text in sources():
+            tree = ast.parse(text)
+            allowed = []
+            for node in ast.walk(tree):
+                if isinstance(node, ast.Call) and isinstance(node.func, ast.Name) and node.func.id in ("sorted", "len"):
+                    allowed += node.args
+                if isinstance(node, ast.Assign) and isinstance(node.targets[0], ast.Name):
+                    allowed.append(node.value)
+            for node in ast.walk(tree):
+                made = isinstance(node, ast.Call) and isinstance(node.func, ast.Name) and node.func.id == "set"
+                if made or isinstance(node, (ast.Set, ast.SetComp)):
+                    self.assertIn(node, allowed, f"{path.name}:{node.lineno}")
+
+    def test_each_name_is_bound_once_at_module_level(self):
+        for path, text in sources():
+            names = []
+            for node in ast.parse(text).body:
+                if isinstance(node, ast.ImportFrom):
+                    names += [alias.name for alias in node.names]
+                elif isinstance(node, ast.Assign):
+                    names += [target.id for target in node.targets]
+                elif isinstance(node, (ast.FunctionDef, ast.ClassDef)):
+                    names.append(node.name)
+            self.assertEqual(len(set(names)), len(names), path)
+
+    def test_imports_are_used_and_come_from_where_they_are_defined(self):
+        for path, text in sources():
+            tree = ast.parse(text)
+            used = {node.id for node in ast.walk(tree) if isinstance(node, ast.Name)}
+            for node in tree.body:
+                if isinstance(node, ast.ImportFrom):
+                    for alias in node.names:
+                        self.assertIn(alias.name, used, path)
+                        self.assertIsNone(alias.asname, path)
+                if isinstance(node, ast.ImportFrom) and node.module.startswith("truelevels."):
+                    source = (FOLDER / (node.module.split(".")[1] + ".py")).read_text(encoding="utf-8")
+                    own = [part.name for part in ast.parse(source).body
+                           if isinstance(part, (ast.FunctionDef, ast.ClassDef))]
+                    own += [part.targets[0].id for part in ast.parse(source).body if isinstance(part, ast.Assign)]
+                    for alias in node.names:
+                        self.assertIn(alias.name, own, path)
 
 
 if __name__ == "__main__":

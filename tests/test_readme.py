@@ -19,10 +19,9 @@ class Examples(unittest.TestCase):
 
     def test_all_modules_are_named(self):
         text = README.read_text(encoding="utf-8")
-        inner = {"__init__", "flows", "forests", "placing", "shapes", "stars"}
-        for path in (README.parent / "truelevels").glob("*.py"):
-            if path.stem not in inner:
-                self.assertIn(f"`truelevels.{path.stem}`", text)
+        stems = [path.stem for path in (README.parent / "truelevels").glob("*.py")]
+        missing = [stem for stem in stems if f"`truelevels.{stem}`" not in text]
+        self.assertEqual(missing, ["__init__"])
 
 
 if __name__ == "__main__":

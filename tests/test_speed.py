@@ -11,11 +11,16 @@ from truelevels.bridges import best_further, bridges, halves, unseen
 from truelevels.checks import check_heights, check_indices, check_side
 from truelevels.classes import classes, is_sure, sure_against, sure_heights
 from truelevels.cuts import strength
-from truelevels.errors import BadState
+from truelevels.desk import Desk
+from truelevels.errors import BadEntry, BadState
 from truelevels.leastcuts import best_pair, least_cuts, weak_readings
+from truelevels.logs import mended, read_log, replay, shown_log
+from truelevels.more import lack, plan_of
 from truelevels.near import bound, doubts, far_apart, is_near
 from truelevels.papertext import parse_paper, shown_paper
+from truelevels.planjudge import judge_plan
 from truelevels.profile import profile
+from truelevels.reports import report
 from truelevels.rings import are_seen, closings, explanations, is_ring, rings
 from truelevels.tree import cut_tree, least_size
 from truelevels.trusted import fewest_trusted, heights_of, homes, is_safe_with, merged, sure_lies, trusted_best
@@ -53,7 +58,7 @@ class Timed(unittest.TestCase):
             told = function(*arguments)
         except BadState:
             told = None
-        self.assertLess(time.perf_counter() - start, SECONDS, (function.__name__, arguments))
+        self.assertLess(time.perf_counter() - start, SECONDS, (str(function), str(arguments)[:2000]))
         return told
 
 
@@ -181,6 +186,77 @@ class Speed(Timed):
         for net in rows + [drawn_net(draw, many, 12, 1000000) for many in range(2, 14) for _ in range(3)]:
             for k in (0, 1, 2, 3, 6):
                 self.quick(fewest_trusted, net, k)
+
+    def test_plans(self):
+        draw = random.Random(122)
+        row = ("net", NAMES, tuple((mark, mark + 1, 5) for mark in range(15)))
+        star = ("net", NAMES, tuple((0, mark, 5) for mark in range(1, 16)))
+        ring = ("net", NAMES, row[2] + ((15, 0, 5),))
+        pairs = ("net", NAMES, row[2] + tuple((mark, mark + 1, 5) for mark in range(0, 16, 2)) * 8)
+        for net in [row, star, ring, pairs] + great_nets(122) + [drawn_net(draw, 16, many, 9) for many in (18, 30, 50)]:
+            for t in (2, 3, 5, 9, 10, 11, 15, 19, 20):
+                plan = self.quick(plan_of, net, t)
+                self.assertIs(self.quick(judge_plan, net, t, plan), True)
+                self.quick(lack, net, t, tuple(range(1, len(net[1]))))
+
+    def test_reports(self):
+        for net in great_nets(123):
+            self.quick(report, net)
+
+
+class DesksOf1000Entries(Timed):
+    def logs(self):
+        """Logs of 1,000 entries."""
+        draw = random.Random(124)
+        yield (("mark", "a"),) + tuple(("bound", n % 21) for n in range(999))
+        marks = tuple(("mark", name) for name in NAMES)
+        entries = list(marks)
+        present = []
+        for number in range(492):
+            start, end = draw.sample(NAMES, 2)
+            entries.append(("read", start, end, draw.randint(-1000000, 1000000)))
+            present.append(number)
+            if number >= 79:
+                entries.append(("drop", present.pop(draw.randrange(len(present)))))
+        while len(entries) < 1000:
+            entries.append(("bound", len(entries) % 21))
+        yield tuple(entries[:1000])
+
+    def test_replaying_reading_and_undoing(self):
+        for log in self.logs():
+            self.assertEqual(len(log), 1000)
+            text = self.quick(shown_log, log)
+            self.assertEqual(self.quick(read_log, text), log)
+            self.assertEqual(self.quick(mended, text[:-1]), (log[:-1], text[:-1].rfind("\n") + 1))
+            desk = self.quick(replay, log)
+            self.quick(self.undo_all, desk)
+            self.assertEqual(desk.log(), ())
+
+    def undo_all(self, desk):
+        """Take all entries back, and look at the desk now and then."""
+        for count in range(1000, 0, -1):
+            if count % 50 == 0:
+                self.assertEqual(len(desk.log()), count)
+                desk.parts()
+            desk.undo()
+
+    def test_answers_of_a_full_desk(self):
+        for log in self.logs():
+            desk = replay(log)
+            for method in (desk.net, desk.numbers, desk.bound, desk.parts, desk.heights, desk.spans, desk.strength,
+                           desk.is_safe, desk.verdicts, desk.log):
+                self.quick(method)
+
+    def test_doing_deed_by_deed(self):
+        for log in self.logs():
+            self.quick(self.do_all, Desk(), log)
+
+    def do_all(self, desk, log):
+        """Do all deeds of a log, each behind one that is refused."""
+        for deed in log:
+            with self.assertRaises(BadEntry):
+                desk.do(("bound", 21))
+            desk.do(deed)
 
 
 if __name__ == "__main__":

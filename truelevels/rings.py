@@ -6,6 +6,7 @@ from truelevels.cuts import strength
 from truelevels.errors import BadState
 from truelevels.forests import trees_over
 from truelevels.misses import miss_of
+from truelevels.shapes import is_within
 
 MOST_SETS = 20000
 
@@ -99,7 +100,7 @@ def explanations(net, k):
 
 def holds_one(chosen, found):
     """True if one of the found sets is within the chosen one."""
-    return any(all(index in chosen for index in less) for less in found)
+    return any(is_within(less, chosen) for less in found)
 
 
 def unclosed_ring(net, left_out):

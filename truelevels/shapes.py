@@ -40,6 +40,11 @@ def are_indices(thing, many):
     return all(before < index for before, index in zip(thing, thing[1:]))
 
 
+def is_within(few, many):
+    """True if each of the few is one of the many."""
+    return all(one in many for one in few)
+
+
 def is_side(net, thing):
     """True for indices of marks, ascending, at least one, without the first mark."""
     _, marks, _ = net

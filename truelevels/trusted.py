@@ -88,4 +88,9 @@ def weak_cuts(net, most):
 
 def meets_all(chosen, cuts):
     """True if each cut has a chosen reading: just these cuts are none of the merged net."""
-    return all(any(index in chosen for index in cut) for cut in cuts)
+    return all(meets(chosen, cut) for cut in cuts)
+
+
+def meets(chosen, cut):
+    """True if a chosen reading is in the cut."""
+    return any(index in chosen for index in cut)
